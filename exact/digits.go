@@ -138,11 +138,16 @@ func sum(terms ...api.Num) api.Num {
 	for _, x := range terms {
 		lay(columns, x, x.Exp-low)
 	}
+	return settled(columns, low)
+}
+
+// settled tells the number that columns, with room on top for what they carry, tell times 2^exp; in their own memory.
+func settled(columns []int, exp int) api.Num {
 	neg := carry(columns, 1)
 	if neg {
 		carry(columns, -1)
 	}
-	return form(neg, columns, low)
+	return form(neg, columns, exp)
 }
 
 // lay adds a number's digits to columns, from a place on.
@@ -158,13 +163,14 @@ func lay(columns []int, x api.Num, place int) {
 	}
 }
 
-// carry makes digits of columns, with either sign, times sign; true: what they tell is below 0, and the digits lack a -1 on top.
+// carry makes digits of columns, of any ints, times sign; true: what they tell is below 0, and the digits lack a -1 on top. Each column is taken apart first, so that no int is too great.
 func carry(columns []int, sign int) bool {
 	over := 0
 	for i := range len(columns) {
-		over += sign * columns[i]
+		column := sign * columns[i]
+		over += column & mask
 		columns[i] = over & mask
-		over >>= digitBits
+		over = over>>digitBits + column>>digitBits
 	}
 	return over < 0
 }

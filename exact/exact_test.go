@@ -257,6 +257,35 @@ func TestP203MakeOfNoDigits(t *testing.T) {
 	}
 }
 
+// TestColumns: what the layers below make their sums of.
+func TestColumns(t *testing.T) {
+	r := rand.New(rand.NewSource(208))
+	ends := []int{0, 1, -1, digitTop, -digitTop, 1 << 30, -1 << 30, math.MaxInt, math.MinInt, math.MinInt + 1, math.MaxInt - 1, 1 << 62, -1 << 62}
+	for i := range 6000 {
+		columns := make([]int, r.Intn(9))
+		for j := range columns {
+			columns[j] = int(r.Uint64()) >> r.Intn(64)
+			if i%2 == 0 {
+				columns[j] = ends[r.Intn(len(ends))]
+			}
+		}
+		want := new(big.Int)
+		for j := range columns {
+			want.Lsh(want, 30).Add(want, big.NewInt(int64(columns[len(columns)-1-j])))
+		}
+		was, exp := slices.Clone(columns), []int{0, -1074, 77, api.MaxExp, -api.MaxExp - 30, math.MaxInt, math.MinInt}[r.Intn(7)]
+		got, e := exact.Columns(columns, exp)
+		wants(t, "Columns", got, e, want, exp)
+		if !slices.Equal(was, columns) {
+			t.Fatal("columns that are handed in are changed")
+		}
+	}
+	full := slices.Repeat([]int{-1}, api.MaxDigits+1)
+	if got, e := exact.Columns(full, 0); e != api.ErrLong || !isZero(got) {
+		t.Errorf("columns too many: %v, %v", got, e)
+	}
+}
+
 func TestP203Int(t *testing.T) {
 	list := []int{0, 1, -1, 2, -2, 12, -12, digitTop, 1 << 30, 1<<30 + 1, 1<<60 - 1, 1 << 60, 1<<60 + 1, math.MaxInt, math.MinInt, math.MinInt + 1}
 	r := rand.New(rand.NewSource(204))
