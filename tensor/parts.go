@@ -59,7 +59,7 @@ func Turn(m api.Matrix) (api.Matrix, api.Errno) {
 			list[c*m.Rows+r] = b
 		}
 	}
-	return matrix(turned(shapeOf(m)), list), api.OK
+	return matrix(Turned(shapeOf(m)), list), api.OK
 }
 
 // Form gives other rows and columns.
@@ -67,7 +67,7 @@ func Form(m api.Matrix, rows, cols int) (api.Matrix, api.Errno) {
 	if e := Check(m); e != api.OK {
 		return api.Matrix{}, e
 	}
-	s, e := formed(shapeOf(m), rows, cols)
+	s, e := Formed(shapeOf(m), rows, cols)
 	if e != api.OK {
 		return api.Matrix{}, e
 	}
@@ -79,7 +79,7 @@ func CutCols(m api.Matrix, from, to int) (api.Matrix, api.Errno) {
 	if e := Check(m); e != api.OK {
 		return api.Matrix{}, e
 	}
-	s, e := colsCut(shapeOf(m), from, to)
+	s, e := ColsCut(shapeOf(m), from, to)
 	if e != api.OK {
 		return api.Matrix{}, e
 	}
@@ -95,7 +95,7 @@ func CutRows(m api.Matrix, from, to int) (api.Matrix, api.Errno) {
 	if e := Check(m); e != api.OK {
 		return api.Matrix{}, e
 	}
-	s, e := rowsCut(shapeOf(m), from, to)
+	s, e := RowsCut(shapeOf(m), from, to)
 	if e != api.OK {
 		return api.Matrix{}, e
 	}
@@ -124,7 +124,7 @@ func GlueCols(l []api.Matrix) (api.Matrix, api.Errno) {
 	if e := checkAll(l); e != api.OK {
 		return api.Matrix{}, e
 	}
-	s, e := colsGlued(shapesOf(l))
+	s, e := ColsGlued(Shapes(l))
 	if e != api.OK {
 		return api.Matrix{}, e
 	}
@@ -142,7 +142,7 @@ func GlueRows(l []api.Matrix) (api.Matrix, api.Errno) {
 	if e := checkAll(l); e != api.OK {
 		return api.Matrix{}, e
 	}
-	s, e := rowsGlued(shapesOf(l))
+	s, e := RowsGlued(Shapes(l))
 	if e != api.OK {
 		return api.Matrix{}, e
 	}
@@ -158,7 +158,7 @@ func Window(m api.Matrix, size, step int) (api.Matrix, api.Errno) {
 	if e := Check(m); e != api.OK {
 		return api.Matrix{}, e
 	}
-	s, e := windowed(shapeOf(m), size, step)
+	s, e := Windowed(shapeOf(m), size, step)
 	if e != api.OK {
 		return api.Matrix{}, e
 	}

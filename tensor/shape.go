@@ -10,8 +10,8 @@ func shapeOf(m api.Matrix) api.Shape {
 	return api.Shape{Rows: m.Rows, Cols: m.Cols, Width: m.Width}
 }
 
-// shapesOf tells the shapes of many.
-func shapesOf(l []api.Matrix) []api.Shape {
+// Shapes tells the shapes of many.
+func Shapes(l []api.Matrix) []api.Shape {
 	shapes := make([]api.Shape, len(l))
 	for i, m := range l {
 		shapes[i] = shapeOf(m)
@@ -19,8 +19,8 @@ func shapesOf(l []api.Matrix) []api.Shape {
 	return shapes
 }
 
-// checkShape tells whether a matrix can have a shape.
-func checkShape(s api.Shape) api.Errno {
+// CheckShape tells whether a matrix can have a shape. The rules below that tell what comes out are for such shapes.
+func CheckShape(s api.Shape) api.Errno {
 	if !bits.Valid(0, s.Width) {
 		return api.ErrWidth
 	}
@@ -74,36 +74,36 @@ func stretched(s api.Shape, rows, cols int) (api.Shape, api.Errno) {
 // stretches tells whether so many rows (columns) can become others.
 func stretches(from, to int) bool { return to == from || from == 1 && to >= 1 }
 
-// turned tells the shape of what Turn makes.
-func turned(s api.Shape) api.Shape {
+// Turned tells the shape of what Turn makes.
+func Turned(s api.Shape) api.Shape {
 	return api.Shape{Rows: s.Cols, Cols: s.Rows, Width: s.Width}
 }
 
-// formed tells the shape of what Form makes.
-func formed(s api.Shape, rows, cols int) (api.Shape, api.Errno) {
+// Formed tells the shape of what Form makes.
+func Formed(s api.Shape, rows, cols int) (api.Shape, api.Errno) {
 	to := api.Shape{Rows: rows, Cols: cols, Width: s.Width}
-	if checkShape(to) != api.OK || rows*cols != s.Rows*s.Cols {
+	if CheckShape(to) != api.OK || rows*cols != s.Rows*s.Cols {
 		return api.Shape{}, api.ErrShape
 	}
 	return to, api.OK
 }
 
-// colsCut tells the shape of what CutCols makes.
-func colsCut(s api.Shape, from, to int) (api.Shape, api.Errno) {
+// ColsCut tells the shape of what CutCols makes.
+func ColsCut(s api.Shape, from, to int) (api.Shape, api.Errno) {
 	if from < 0 || to > s.Cols || from >= to {
 		return api.Shape{}, api.ErrIndex
 	}
 	return api.Shape{Rows: s.Rows, Cols: to - from, Width: s.Width}, api.OK
 }
 
-// rowsCut tells the shape of what CutRows makes: CutCols's, with rows for columns.
-func rowsCut(s api.Shape, from, to int) (api.Shape, api.Errno) {
-	s, e := colsCut(turned(s), from, to)
-	return turned(s), e
+// RowsCut tells the shape of what CutRows makes: CutCols's, with rows for columns.
+func RowsCut(s api.Shape, from, to int) (api.Shape, api.Errno) {
+	s, e := ColsCut(Turned(s), from, to)
+	return Turned(s), e
 }
 
-// colsGlued tells the shape of what GlueCols makes of one or more.
-func colsGlued(l []api.Shape) (api.Shape, api.Errno) {
+// ColsGlued tells the shape of what GlueCols makes of one or more.
+func ColsGlued(l []api.Shape) (api.Shape, api.Errno) {
 	for _, s := range l {
 		if s.Width != l[0].Width {
 			return api.Shape{}, api.ErrWidth
@@ -119,18 +119,18 @@ func colsGlued(l []api.Shape) (api.Shape, api.Errno) {
 	return roomy(api.Shape{Rows: l[0].Rows, Cols: cols, Width: l[0].Width})
 }
 
-// rowsGlued tells the shape of what GlueRows makes of one or more: GlueCols's, with rows for columns.
-func rowsGlued(l []api.Shape) (api.Shape, api.Errno) {
+// RowsGlued tells the shape of what GlueRows makes of one or more: GlueCols's, with rows for columns.
+func RowsGlued(l []api.Shape) (api.Shape, api.Errno) {
 	aside := make([]api.Shape, len(l))
 	for i, s := range l {
-		aside[i] = turned(s)
+		aside[i] = Turned(s)
 	}
-	s, e := colsGlued(aside)
-	return turned(s), e
+	s, e := ColsGlued(aside)
+	return Turned(s), e
 }
 
-// windowed tells the shape of what Window makes.
-func windowed(s api.Shape, size, step int) (api.Shape, api.Errno) {
+// Windowed tells the shape of what Window makes.
+func Windowed(s api.Shape, size, step int) (api.Shape, api.Errno) {
 	if s.Rows > 1 {
 		return api.Shape{}, api.ErrShape
 	}
