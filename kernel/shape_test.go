@@ -223,6 +223,19 @@ func TestP801Counts(t *testing.T) {
 	}
 }
 
+// TestP802Takes: what Takes tells of an operation is what Shape looks for ahead of the shapes.
+func TestP802Takes(t *testing.T) {
+	for op := -70; op < 140; op++ {
+		for count := range 5 {
+			for _, x := range [][2]int{{0, 0}, {1, 0}, {0, 1}, {math.MinInt, math.MaxInt}} {
+				if e, want := kernel.Takes(op, x[0], x[1], count), askedOf(op, x[0], x[1], count); e != want {
+					t.Errorf("Takes(%d, %v, %d): %v; want %v", op, x, count, e, want)
+				}
+			}
+		}
+	}
+}
+
 // TestP801Check: the first matrix that is not in form, wherever it stands, ahead of what does not fit.
 func TestP801Check(t *testing.T) {
 	good := of(1, 1, 1)
