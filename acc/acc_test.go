@@ -252,6 +252,16 @@ func held(t *testing.T, x, y []int, w int) {
 	if got, e := acc.Dot(x, y, w); e != api.OK || got != dot.nearest(1, w) {
 		t.Errorf("Dot of %d of width %d: %#x, %v; want %#x", len(x), w, got, e, dot.nearest(1, w))
 	}
+	if len(x) > 100 {
+		return
+	}
+	var one api.Acc
+	for i := range x {
+		one, _ = acc.AddProduct(one, x[i], y[i], w)
+	}
+	if all, e := acc.Products(x, y, w); e != api.OK || !acc.Same(all, one) {
+		t.Errorf("Products of %d of width %d: %v, %v; want %v", len(x), w, all, e, one)
+	}
 }
 
 func TestP307Lists(t *testing.T) {

@@ -56,13 +56,8 @@ func holds(m api.Matrix, s api.Shape, want api.Matrix) error {
 
 // fits wants a matrix to be in form and to have a shape.
 func fits(m api.Matrix, s api.Shape) error {
-	switch e := tensor.Check(m); {
-	case e != api.OK:
+	if e := tensor.Fits(m, s); e != api.OK {
 		return stop{err: e}
-	case m.Width != s.Width:
-		return stop{err: api.ErrWidth}
-	case m.Rows != s.Rows || m.Cols != s.Cols:
-		return stop{err: api.ErrShape}
 	}
 	return nil
 }

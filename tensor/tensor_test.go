@@ -420,3 +420,27 @@ func TestP711Shape(t *testing.T) {
 		t.Error("Same of two alike is false")
 	}
 }
+
+// TestP701Fits: in form and of a shape, in the order of the errors.
+func TestP701Fits(t *testing.T) {
+	m := counted(2, 3, 64)
+	for _, x := range []struct {
+		m    api.Matrix
+		s    api.Shape
+		want api.Errno
+	}{
+		{m, api.Shape{Rows: 2, Cols: 3, Width: 64}, api.OK},
+		{m, api.Shape{Rows: 2, Cols: 3, Width: 32}, api.ErrWidth},
+		{m, api.Shape{Rows: 3, Cols: 2, Width: 32}, api.ErrWidth},
+		{m, api.Shape{Rows: 3, Cols: 3, Width: 64}, api.ErrShape},
+		{m, api.Shape{Rows: 2, Cols: 2, Width: 64}, api.ErrShape},
+		{m, api.Shape{}, api.ErrWidth},
+		{api.Matrix{}, api.Shape{}, api.ErrWidth},
+		{api.Matrix{Rows: 1, Cols: 1, Width: 32, Bits: []int{-1}}, api.Shape{Rows: 2, Cols: 1, Width: 64}, api.ErrBits},
+		{api.Matrix{Rows: 4097, Cols: 1, Width: 64}, api.Shape{Rows: 4097, Cols: 1, Width: 64}, api.ErrLong},
+	} {
+		if e := tensor.Fits(x.m, x.s); e != x.want {
+			t.Errorf("Fits(%v, %v): %v, want %v", x.m, x.s, e, x.want)
+		}
+	}
+}
