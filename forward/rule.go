@@ -7,6 +7,7 @@ import (
 	"pupil/api"
 	"pupil/bits"
 	"pupil/kernel"
+	"pupil/sure"
 	"pupil/tensor"
 )
 
@@ -31,7 +32,7 @@ func (s step) element(r, c int) element {
 }
 
 // number tells the element of a matrix that comes to a row and a column, where it is stretched.
-func number(m api.Matrix, r, c int) api.Num { return valueOf(rowOf(m, r%m.Rows)[c%m.Cols], m.Width) }
+func number(m api.Matrix, r, c int) api.Num { return sure.Of(rowOf(m, r%m.Rows)[c%m.Cols], m.Width) }
 
 // rowOf tells a row of a matrix.
 func rowOf(m api.Matrix, r int) []int { return m.Bits[r*m.Cols : (r+1)*m.Cols] }
@@ -50,7 +51,7 @@ func (s step) each(told func(e element) int) []int {
 // rounded is the rule of an exact number for each element.
 func rounded(f func(e element) api.Num) func(s step) []int {
 	return func(s step) []int {
-		return s.each(func(e element) int { return nearest(f(e), s.value.Width) })
+		return s.each(func(e element) int { return sure.Round(f(e), s.value.Width) })
 	}
 }
 
@@ -59,7 +60,7 @@ func divided(f func(e element) (over, under api.Num)) func(s step) []int {
 	return func(s step) []int {
 		return s.each(func(e element) int {
 			over, under := f(e)
-			return quotient(over, under, s.value.Width)
+			return sure.Quot(over, under, s.value.Width)
 		})
 	}
 }
@@ -79,7 +80,7 @@ func plain(list []int, w int) []int {
 }
 
 // valued is the tangent, where the local derivative is the value itself.
-func valued(e element) api.Num { return times(e.y, e.dx) }
+func valued(e element) api.Num { return sure.Mul(e.y, e.dx) }
 
 // softplus has the rule of OpExp, with the sigmoid for the value.
 func softplus(s step) []int {
@@ -115,7 +116,7 @@ func greatest(s step) []int {
 
 // softmax weighs by the value, and so again what is left.
 func softmax(s step) []int {
-	return s.centred(s.value, times)
+	return s.centred(s.value, sure.Mul)
 }
 
 // logSoft weighs by the value's powers.
@@ -131,8 +132,8 @@ func (s step) centred(weights api.Matrix, told func(weight, left api.Num) api.Nu
 	for r := range s.value.Rows {
 		sum, _ := acc.Products(rowOf(weights, r), rowOf(along, r), w)
 		for c := range s.value.Cols {
-			left := minus(number(along, r, c), sum.Sum)
-			list = append(list, nearest(told(number(weights, r, c), left), w))
+			left := sure.Sub(number(along, r, c), sum.Sum)
+			list = append(list, sure.Round(told(number(weights, r, c), left), w))
 		}
 	}
 	return list

@@ -4,6 +4,7 @@ import (
 	"slices"
 
 	"pupil/api"
+	"pupil/sure"
 )
 
 // row is a row of the table of local derivatives.
@@ -22,16 +23,16 @@ func ruleOf(op int) func(s step) []int {
 // elementRows has the operations whose elements each take what stands at one place.
 func elementRows() []row {
 	return []row{
-		{api.OpMul, rounded(func(e element) api.Num { return plus(times(e.dx, e.u), times(e.x, e.du)) })},
-		{api.OpDiv, divided(func(e element) (api.Num, api.Num) { return minus(e.dx, times(e.y, e.du)), e.u })},
-		{api.OpRelu, rounded(func(e element) api.Num { return times(whole(max(sign(e.x), 0)), e.dx) })},
-		{api.OpAbs, rounded(func(e element) api.Num { return times(whole(sign(e.x)), e.dx) })},
+		{api.OpMul, rounded(func(e element) api.Num { return sure.Add(sure.Mul(e.dx, e.u), sure.Mul(e.x, e.du)) })},
+		{api.OpDiv, divided(func(e element) (api.Num, api.Num) { return sure.Sub(e.dx, sure.Mul(e.y, e.du)), e.u })},
+		{api.OpRelu, rounded(func(e element) api.Num { return sure.Mul(sure.Int(max(sure.Sign(e.x), 0)), e.dx) })},
+		{api.OpAbs, rounded(func(e element) api.Num { return sure.Mul(sure.Int(sure.Sign(e.x)), e.dx) })},
 		{api.OpExp, rounded(valued)},
 		{api.OpLog, divided(func(e element) (api.Num, api.Num) { return e.dx, e.x })},
-		{api.OpTanh, rounded(func(e element) api.Num { return times(minus(whole(1), times(e.y, e.y)), e.dx) })},
-		{api.OpSigmoid, rounded(func(e element) api.Num { return times(minus(e.y, times(e.y, e.y)), e.dx) })},
+		{api.OpTanh, rounded(func(e element) api.Num { return sure.Mul(sure.Sub(sure.Int(1), sure.Mul(e.y, e.y)), e.dx) })},
+		{api.OpSigmoid, rounded(func(e element) api.Num { return sure.Mul(sure.Sub(e.y, sure.Mul(e.y, e.y)), e.dx) })},
 		{api.OpSoftplus, softplus},
-		{api.OpSqrt, divided(func(e element) (api.Num, api.Num) { return e.dx, plus(e.y, e.y) })},
+		{api.OpSqrt, divided(func(e element) (api.Num, api.Num) { return e.dx, sure.Add(e.y, e.y) })},
 	}
 }
 
