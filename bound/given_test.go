@@ -219,13 +219,6 @@ func copies(l []api.Matrix) []api.Matrix {
 	return l
 }
 
-// sameAll tells whether two lists of matrices say the same, to the bit.
-func sameAll(a, b []api.Matrix) bool { return slices.EqualFunc(a, b, same) }
-
-func same(a, b api.Matrix) bool {
-	return a.Rows == b.Rows && a.Cols == b.Cols && a.Width == b.Width && slices.Equal(a.Bits, b.Bits)
-}
-
 // told is what Tell is given: a tape with its values, a direction, a node and a seed. Forward and Reverse are given some of it.
 type told struct {
 	tape                   api.Tape
@@ -276,20 +269,6 @@ func valuesOf(t *testing.T, made api.Tape, inputs, params []api.Matrix) []api.Ma
 		t.Fatalf("eval.Run: %v", f)
 	}
 	return values
-}
-
-// leavesOf tells, of values, those of the inputs and of the parameters.
-func leavesOf(t api.Tape, values []api.Matrix) (inputs, params []api.Matrix) {
-	inputs, params = make([]api.Matrix, count(t, api.OpInput)), make([]api.Matrix, count(t, api.OpParam))
-	for node, n := range t.Nodes {
-		switch n.Op {
-		case api.OpInput:
-			inputs[n.A] = values[node]
-		case api.OpParam:
-			params[n.A] = values[node]
-		}
-	}
-	return inputs, params
 }
 
 // isFinite tells whether bits are those of a finite float.
