@@ -40,6 +40,12 @@ func Mul(a, b api.Num) api.Num {
 	return x
 }
 
+// Scale multiplies with a power of 2.
+func Scale(x api.Num, k int) api.Num {
+	s, _ := exact.Scale(x, k)
+	return s
+}
+
 // Sign tells -1, 0 or 1.
 func Sign(x api.Num) int {
 	s, _ := exact.Sign(x)

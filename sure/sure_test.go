@@ -25,6 +25,7 @@ func TestCalls(t *testing.T) {
 				}{
 					{sure.Add(a, b), exact.Add}, {sure.Sub(a, b), exact.Sub}, {sure.Mul(a, b), exact.Mul},
 					{sure.Neg(a), func(a, _ api.Num) (api.Num, api.Errno) { return exact.Neg(a) }},
+					{sure.Scale(a, -53), func(a, _ api.Num) (api.Num, api.Errno) { return exact.Scale(a, -53) }},
 				} {
 					want, e := c.call(a, b)
 					if d, _ := exact.Cmp(c.got, want); e != api.OK || d != 0 {
