@@ -121,24 +121,34 @@ func leading(x api.Num) lead {
 	return lead{neg: x.Neg, head: piece(x.Mag, low+digitBits)<<digitBits | piece(x.Mag, low), exp: x.Exp + low, rest: low > 0}
 }
 
-// quotient tells the lead of a by b: b is laid out with its topmost bit on top of a digit, and a so that two digits and a bit come out.
+// quotient tells the lead of a by b, of two digits' bits and a bit.
 func quotient(a, b api.Num) lead {
 	if len(a.Mag) == 0 {
 		return lead{}
 	}
+	digits, exp, rest := divided(a, b, 2)
+	head := 0
+	for i := range len(digits) {
+		head = head<<digitBits | digits[len(digits)-1-i]
+	}
+	return lead{neg: a.Neg != b.Neg, head: head, exp: exp, rest: rest}
+}
+
+// divided tells, signs aside, the first digits of a by b, count of them and a bit above these, times 2^exp, and whether there is more behind them; a is not 0. Here b is laid out with its topmost bit on top of a digit, and a so that so many come out.
+func divided(a, b api.Num, count int) (digits []int, exp int, rest bool) {
 	n, long := len(b.Mag), length(b.Mag)
 	divisor := pieces(b.Mag, n, long-n*digitBits)
-	low := length(a.Mag) - (n+2)*digitBits
-	left := append(pieces(a.Mag, n+2, low), 0)
-	head := 0
-	for i := range 3 {
-		head = head<<digitBits | take(left[2-i:3-i+n], divisor)
+	low := length(a.Mag) - (n+count)*digitBits
+	left := append(pieces(a.Mag, n+count, low), 0)
+	digits = make([]int, count+1)
+	for i := range len(digits) {
+		digits[count-i] = take(left[count-i:count-i+n+1], divisor)
 	}
-	rest := low > 0
+	rest = low > 0
 	for i := range n {
 		rest = rest || left[i] != 0
 	}
-	return lead{neg: a.Neg != b.Neg, head: head, exp: a.Exp - b.Exp + length(a.Mag) - long - 2*digitBits, rest: rest}
+	return digits, a.Exp - b.Exp + length(a.Mag) - long - count*digitBits, rest
 }
 
 // pieces tells digits from a place on.
@@ -201,4 +211,16 @@ func root(x api.Num) lead {
 		}
 	}
 	return lead{head: head, exp: last / 2, rest: left != 0 || last > x.Exp}
+}
+
+// rootOfQuotient tells the lead of the square root of a by b. The root looks at fewer bits than four digits have; the even part of the exponent is halved beside it, since it may be beyond what a number has.
+func rootOfQuotient(a, b api.Num) lead {
+	if len(a.Mag) == 0 {
+		return lead{}
+	}
+	digits, exp, rest := divided(a, b, 4)
+	r := root(form(false, digits, exp&1))
+	r.exp += exp >> 1
+	r.rest = r.rest || rest
+	return r
 }

@@ -232,3 +232,74 @@ func TestP207RootBelowZero(t *testing.T) {
 		}
 	}
 }
+
+// everyRootQuot holds RootQuot of two numbers, both above 0 or both below.
+func everyRootQuot(t *testing.T, a, b api.Num) {
+	t.Helper()
+	for _, neg := range []bool{false, true} {
+		x, y := api.Num{Neg: neg && len(a.Mag) > 0, Mag: a.Mag, Exp: a.Exp}, api.Num{Neg: neg, Mag: b.Mag, Exp: b.Exp}
+		want := asRoot(new(big.Rat).Quo(rat(x), rat(y)))
+		for _, w := range widths {
+			for _, way := range ways {
+				got, other, e := exact.RootQuot(x, y, w, way)
+				heldRound(t, "RootQuot", want, w, way, got, other, e)
+			}
+		}
+	}
+}
+
+// TestRootQuot: what the layers below have beside P207's calls.
+func TestRootQuot(t *testing.T) {
+	r := rand.New(rand.NewSource(213))
+	for i := range 1200 {
+		reach := []int{3, 40, 300, 1500}[i%4]
+		everyRootQuot(t, some(r, 1+i%6, reach), some(r, 1+i/6%6, reach))
+	}
+	for n := range 40 {
+		for d := range 40 {
+			everyRootQuot(t, exact.Int(n), exact.Int(d+1))
+		}
+	}
+	everyRootQuot(t, long(60000, 0), long(59999, 1))
+	everyRootQuot(t, some(r, api.MaxDigits, 1000), some(r, api.MaxDigits, 1000))
+	for _, exps := range [][2]int{{api.MaxExp, -api.MaxExp}, {-api.MaxExp, api.MaxExp}, {api.MaxExp, api.MaxExp}, {api.MaxExp, -api.MaxExp + 1}, {-api.MaxExp, api.MaxExp - 1}} {
+		everyRootQuot(t, num(false, 1, exps[0]), num(false, 3, exps[1]))
+	}
+}
+
+func TestRootQuotAtFloatsAndMiddles(t *testing.T) {
+	r := rand.New(rand.NewSource(214))
+	for _, w := range widths {
+		for _, f := range edges(w) {
+			for _, x := range []*big.Rat{value(f, w), middle(f, beside(f, w, true), w)} {
+				b := some(r, 3, 40)
+				b.Neg = false
+				product := new(big.Rat).Mul(new(big.Rat).Mul(x, x), rat(b))
+				near := new(big.Rat).Mul(power(-4001), rat(b))
+				everyRootQuot(t, ratNum(product), b)
+				everyRootQuot(t, ratNum(new(big.Rat).Add(product, near)), b)
+				if x.Sign() > 0 {
+					everyRootQuot(t, ratNum(new(big.Rat).Sub(product, near)), b)
+				}
+			}
+		}
+	}
+}
+
+// TestRootQuotRefused: the errors of both calls, in the order of P202.
+func TestRootQuotRefused(t *testing.T) {
+	one, none := num(false, 1, 0), num(false, 2, 0)
+	for i, c := range []struct {
+		a, b   api.Num
+		w, way int
+		want   api.Errno
+	}{
+		{none, api.Num{}, 16, 5, api.ErrWidth}, {none, api.Num{}, 32, 5, api.ErrArg}, {none, api.Num{}, 64, 0, api.ErrNum}, {one, none, 64, 0, api.ErrNum},
+		{one, api.Num{}, 64, 0, api.ErrDivide}, {num(true, 1, 0), api.Num{}, 32, 1, api.ErrDivide}, {api.Num{}, api.Num{}, 32, 2, api.ErrDivide},
+		{num(true, 1, 0), one, 64, 0, api.ErrNegative}, {one, num(true, 3, 9), 32, 1, api.ErrNegative}, {api.Num{}, num(true, 3, 9), 32, 1, api.OK},
+	} {
+		if got, other, e := exact.RootQuot(c.a, c.b, c.w, c.way); got != 0 || other || e != c.want {
+			t.Errorf("%d: %#x, %v, %v, want %v", i, got, other, e, c.want)
+		}
+	}
+}

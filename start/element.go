@@ -57,19 +57,5 @@ func times(x api.Num, parts int) api.Num {
 	return sure.Scale(sure.Mul(x, sure.Int(parts)), -partBits)
 }
 
-// rootOfSixBy tells the float that is nearest to √(6 / n), for n from 1 to the rows and columns that a matrix has at most. Single operations round twice, and come out next to it at worst, so that it is looked for from the float below theirs on.
-func rootOfSixBy(n, w int) int {
-	guess := bits.Sqrt(bits.Div(bits.FromInt(6, w), bits.FromInt(n, w), w), w)
-	b := bits.Prev(guess, w)
-	for nearerToNext(b, n, w) {
-		b = bits.Next(b, w)
-	}
-	return b
-}
-
-// nearerToNext tells whether √(6 / n) lies above the middle between a float and the next one. It never is the middle: that is an odd number above 1 times a power of 2, and no such number's square divides 6 times a power of 2.
-func nearerToNext(b, n, w int) bool {
-	twice := sure.Add(sure.Of(b, w), sure.Of(bits.Next(b, w), w))
-	square := sure.Mul(sure.Mul(twice, twice), sure.Int(n))
-	return sure.Sign(sure.Sub(square, sure.Int(4*6))) < 0
-}
+// rootOfSixBy tells the float that is nearest to √(6 / n).
+func rootOfSixBy(n, w int) int { return sure.RootQuot(sure.Int(6), sure.Int(n), w) }

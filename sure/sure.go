@@ -1,4 +1,4 @@
-// Package sure has the calls of exact numbers for those who ask for nothing that is refused: floats that are finite, a few products of them, and their sums, which are never too long.
+// Package sure has the calls of exact numbers for those who ask for nothing that is refused: floats that are finite, products of some of them, and their sums, which are never too long.
 package sure
 
 import (
@@ -64,5 +64,11 @@ func Quot(a, b api.Num, w int) int {
 	if e == api.ErrDivide {
 		return bits.Div(bits.FromInt(Sign(a), w), 0, w)
 	}
+	return q
+}
+
+// RootQuot tells the float that is nearest to the square root of a quotient that is not below 0, by what is not 0.
+func RootQuot(a, b api.Num, w int) int {
+	q, _, _ := exact.RootQuot(a, b, w, exact.Near)
 	return q
 }

@@ -56,3 +56,14 @@ func TestQuot(t *testing.T) {
 		}
 	}
 }
+
+// TestRootQuot: the root of a quotient.
+func TestRootQuot(t *testing.T) {
+	for _, w := range []int{32, 64} {
+		for _, c := range [][3]float64{{1, 4, 0.5}, {9, 16, 0.75}, {0, 5, 0}, {-2, -8, 0.5}, {1e-40, 1e-40, 1}} {
+			if got := sure.RootQuot(sure.Of(pattern(c[0], w), w), sure.Of(pattern(c[1], w), w), w); got != pattern(c[2], w) {
+				t.Errorf("the root of %v by %v: %x", c[0], c[1], got)
+			}
+		}
+	}
+}
