@@ -11,16 +11,22 @@ import (
 // kind tells the rate, k steps behind the warm-up, of a schedule that was checked.
 type kind func(s api.Schedule, k int) int
 
+// kindOf tells a kind; false: there is no such kind. All answers are worked out by it: it hangs on the number alone, not on what stands in a variable.
+func kindOf(number int) (kind, bool) {
+	told, ok := allKinds()[number]
+	return told, ok
+}
+
 // table has the kinds by their numbers. It makes them when it is first asked.
 type table struct {
 	once sync.Once
 	made map[int]kind
 }
 
-// kinds is the table that all calls ask. What it has never turns, so that no call can tell which one was the first.
+// kinds is the table that stands beside kindOf, and has what that tells. Check asks it, but no answer hangs on it, so that no call can tell which one was the first.
 var kinds = table{}
 
-// of tells a kind; false: there is no such kind.
+// of tells a kind as the table has it.
 func (t *table) of(number int) (kind, bool) {
 	t.once.Do(func() { t.made = allKinds() })
 	told, ok := t.made[number]
