@@ -240,17 +240,26 @@ func aheadOf(p api.Plan, params []api.Matrix, s api.Set, rows []int) api.Errno {
 	return api.OK
 }
 
-// rowOf tells the values of a row, and the adjoints, or where it stops.
-func rowOf(p api.Plan, params []api.Matrix, s api.Set, r int) (values, adjoints []api.Matrix, _ api.Where, _ api.Errno) {
+// valuesOf tells the values of a row, or where they stop.
+func valuesOf(p api.Plan, params []api.Matrix, s api.Set, r int) ([]api.Matrix, api.Where, api.Errno) {
 	cut := func(m api.Matrix) api.Matrix {
 		return api.Matrix{Rows: 1, Cols: m.Cols, Width: m.Width, Bits: m.Bits[r*m.Cols : (r+1)*m.Cols]}
 	}
 	values, f := eval.Run(p.Tape, []api.Matrix{cut(s.X), cut(s.Y)}, params)
 	if f.Err != api.OK {
-		return nil, nil, api.Where{Kind: api.InValue, Row: r, Node: f.Node, At: f.At}, f.Err
+		return nil, api.Where{Kind: api.InValue, Row: r, Node: f.Node, At: f.At}, f.Err
+	}
+	return values, api.Where{}, api.OK
+}
+
+// rowOf tells the values of a row, and the adjoints, or where it stops.
+func rowOf(p api.Plan, params []api.Matrix, s api.Set, r int) (values, adjoints []api.Matrix, _ api.Where, _ api.Errno) {
+	values, where, e := valuesOf(p, params, s, r)
+	if e != api.OK {
+		return nil, nil, where, e
 	}
 	width := values[p.Loss].Width
-	adjoints, f = reverse.Run(p.Tape, values, p.Loss, vals(1, 1, width, 1))
+	adjoints, f := reverse.Run(p.Tape, values, p.Loss, vals(1, 1, width, 1))
 	if f.Err != api.OK {
 		return nil, nil, api.Where{Kind: api.InAdjoint, Row: r, Node: f.Node, At: f.At}, f.Err
 	}

@@ -74,11 +74,16 @@ func (t task) reckon(rows []int) *tally {
 	return &all
 }
 
-// row reckons one row.
-func (t task) row(r int) told {
+// values tells the values of all nodes, of one row, or where they stop.
+func (t task) values(r int) ([]api.Matrix, api.Fault) {
 	x, _ := tensor.CutRows(t.set.X, r, r+1)
 	y, _ := tensor.CutRows(t.set.Y, r, r+1)
-	values, f := eval.Run(t.plan.Tape, []api.Matrix{x, y}, t.params)
+	return eval.Run(t.plan.Tape, []api.Matrix{x, y}, t.params)
+}
+
+// row reckons one row.
+func (t task) row(r int) told {
+	values, f := t.values(r)
 	if f.Err != api.OK {
 		return stopped(api.InValue, r, f)
 	}
