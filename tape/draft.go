@@ -3,6 +3,7 @@ package tape
 import (
 	"slices"
 
+	"pupil/apart"
 	"pupil/api"
 )
 
@@ -36,10 +37,4 @@ func (d *Draft) Shape(node int) (api.Shape, api.Errno) {
 }
 
 // Tape tells the tape, in new memory.
-func (d *Draft) Tape() api.Tape {
-	nodes := make([]api.Node, len(d.nodes))
-	for i, n := range d.nodes {
-		nodes[i] = copied(n)
-	}
-	return api.Tape{Nodes: nodes}
-}
+func (d *Draft) Tape() api.Tape { return apart.Tape(api.Tape{Nodes: d.nodes}) }

@@ -1,8 +1,7 @@
 package tape
 
 import (
-	"slices"
-
+	"pupil/apart"
 	"pupil/api"
 )
 
@@ -47,17 +46,11 @@ func kept(nodes []api.Node, old []int) []api.Node {
 	list := make([]api.Node, 0, len(old))
 	for number, was := range old {
 		turned[was] = number
-		n := copied(nodes[was])
+		n := apart.Node(nodes[was])
 		for i, taken := range n.In {
 			n.In[i] = turned[taken]
 		}
 		list = append(list, n)
 	}
 	return list
-}
-
-// copied tells a node with lists of its own.
-func copied(n api.Node) api.Node {
-	n.In, n.Bits = slices.Clone(n.In), slices.Clone(n.Bits)
-	return n
 }

@@ -3,6 +3,7 @@ package train
 import (
 	"slices"
 
+	"pupil/apart"
 	"pupil/api"
 	"pupil/data"
 	"pupil/optim"
@@ -121,7 +122,7 @@ func (m *step) answer(err error) (api.State, api.Trace, api.Where, api.Errno) {
 
 // run makes so many steps from this one on, up to the first that is refused: the state behind those that were made, and their traces. A state that a step makes is the training's: it need not be looked at again.
 func (m *step) run(steps int) (api.State, []api.Trace, error) {
-	at, traces := copied(m.from), []api.Trace(nil)
+	at, traces := apart.State(m.from), []api.Trace(nil)
 	for range steps {
 		next := &step{training: m.training, from: at}
 		if err := inTurn(next.byRows()...); err != nil {
@@ -130,25 +131,4 @@ func (m *step) run(steps int) (api.State, []api.Trace, error) {
 		at, traces = next.to, append(traces, next.trace())
 	}
 	return at, traces, nil
-}
-
-// copied makes the same state.
-func copied(x api.State) api.State {
-	x.Params = copies(x.Params)
-	slots := make([][]api.Matrix, len(x.Slots))
-	for i, l := range x.Slots {
-		slots[i] = copies(l)
-	}
-	x.Slots = slots
-	return x
-}
-
-// copies makes the same matrices.
-func copies(l []api.Matrix) []api.Matrix {
-	made := make([]api.Matrix, len(l))
-	for i, m := range l {
-		made[i] = m
-		made[i].Bits = slices.Clone(m.Bits)
-	}
-	return made
 }
